@@ -1,0 +1,1 @@
+"""Blindpush: finding out where a part is by pushing it."""

@@ -1,0 +1,12 @@
+"""The bounds that the other modules keep."""
+
+MAX_PLACES = 60
+MAX_ARCS = 12
+MAX_TOOLS = 4
+MAX_PLAN = 100
+MAX_COST = 100
+MAX_BUDGET = 10000
+SMALL_PLACES = 12
+SMALL_PUSHES = 6
+MAX_EDITS = 60
+BATCH = 20
