@@ -5,15 +5,9 @@ from itertools import combinations
 
 from blindpush.arcs import brought_into, lengths_of, spread_of, width_of
 from tests.circles import (
-    LARGE, P, T, all_repeat, all_tools, arc_places, place_sets, sent_to, some_tools, width_by_search,
+    LARGE, P, T, all_repeat, all_tools, arc_places, place_sets, sent_to, some_tools, spread_by_search,
+    width_by_search,
 )
-
-
-def spread_by_search(m, places):
-    for length in range(1, m + 1):
-        for begin in range(m):
-            if set(places) <= set(arc_places(m, begin, length)):
-                return length
 
 
 class Spreads(unittest.TestCase):

@@ -57,10 +57,116 @@ ARCS = """
     [(1, 5, 9, 12), (1, 4)]
 """
 
+PLANS = """
+    >>> from blindpush.plans import fewest_pushes
+    >>> T = ((0, 2), (5, 6), (9, 10))
+    >>> P = ((0, 1), (4, 5), (8, 9))
+    >>> [fewest_pushes(12, (T,), tuple(range(12)), 1), fewest_pushes(12, (T,), (0, 4), 1), fewest_pushes(12, (P,), tuple(range(12)), 3)]
+    [3, 1, None]
+
+    >>> from blindpush.plans import find_plan
+    >>> from blindpush.tools import after_plan
+    >>> T = ((0, 2), (5, 6), (9, 10))
+    >>> len(after_plan(12, (T,), find_plan(12, (T,), tuple(range(12)), 1), tuple(range(12))))
+    1
+
+    >>> from blindpush.plans import plan_holds
+    >>> T = ((0, 2), (5, 6), (9, 10))
+    >>> [plan_holds(12, (T,), tuple(range(12)), 9, ((0, 0),)), plan_holds(12, (T,), tuple(range(12)), 8, ((0, 0),))]
+    [True, False]
+
+    >>> from blindpush.plans import fewest_holds
+    >>> from blindpush.plans import find_plan
+    >>> T = ((0, 2), (5, 6), (9, 10))
+    >>> fewest_holds(12, (T,), tuple(range(12)), 1, (find_plan(12, (T,), tuple(range(12)), 1), (1, 5, 9)))
+    True
+
+    >>> from blindpush.plans import find_certificate
+    >>> P = ((0, 1), (4, 5), (8, 9))
+    >>> [find_certificate(12, (P,), tuple(range(12)), 3), find_certificate(12, (P,), (5,), 1)]
+    [('never', 4), ('plan', ())]
+
+    >>> from blindpush.plans import certificate_holds
+    >>> P = ((0, 1), (4, 5), (8, 9))
+    >>> [certificate_holds(12, (P,), tuple(range(12)), 3, ("never", 8)), certificate_holds(12, (P,), tuple(range(12)), 3, ("never", 3))]
+    [True, False]
+"""
+
+MAPS = """
+    >>> from blindpush.maps import period_of
+    >>> T = ((0, 2), (5, 6), (9, 10))
+    >>> P = ((0, 1), (4, 5), (8, 9))
+    >>> [period_of(12, T), period_of(12, P), period_of(2, ((0, 1), (1, 0)))]
+    [12, 4, 1]
+
+    >>> from blindpush.maps import common_period
+    >>> T = ((0, 2), (5, 6), (9, 10))
+    >>> P = ((0, 1), (4, 5), (8, 9))
+    >>> [common_period(12, (P,)), common_period(12, (P, T))]
+    [4, 12]
+
+    >>> from blindpush.maps import mirrored_tool, turned_tool
+    >>> T = ((0, 2), (5, 6), (9, 10))
+    >>> [turned_tool(12, T, 5), mirrored_tool(12, T)]
+    [((0, 1), (4, 5), (7, 9)), ((1, 2), (4, 6), (8, 10))]
+
+    >>> from blindpush.maps import table_of
+    >>> table_of(6, ((1, 0), (4, 3)))
+    (3, 0, 0, 0, 3, 3)
+
+    >>> from blindpush.maps import tool_of
+    >>> [tool_of(6, (3, 0, 0, 0, 3, 3)), tool_of(4, (0, 2, 1, 3)), tool_of(2, (1, 1))]
+    [((1, 0), (4, 3)), None, ((0, 1),)]
+
+    >>> from blindpush.maps import combined
+    >>> T = ((0, 2), (5, 6), (9, 10))
+    >>> [combined(12, T, 0, T), combined(12, T, 3, T)]
+    [((0, 2), (5, 6), (9, 10)), ((0, 6), (5, 10), (9, 2))]
+
+    >>> from blindpush.maps import plan_tool
+    >>> T = ((0, 2), (5, 6), (9, 10))
+    >>> plan_tool(12, (T,), ((2, 0),))
+    ((3, 6), (7, 10), (10, 2))
+"""
+
+COSTS = """
+    >>> from blindpush.costs import least_cost
+    >>> T = ((0, 2), (5, 6), (9, 10))
+    >>> P = ((0, 1), (4, 5), (8, 9))
+    >>> [least_cost(12, (T, P), (5, 2), tuple(range(12)), 9), least_cost(12, (T, P), (5, 2), tuple(range(12)), 1)]
+    [2, 12]
+
+    >>> from blindpush.costs import find_cheap_plan
+    >>> P = ((0, 1), (4, 5), (8, 9))
+    >>> find_cheap_plan(12, (P,), (2,), tuple(range(12)), 3)
+    None
+
+    >>> from blindpush.costs import cost_widths
+    >>> T = ((0, 2), (5, 6), (9, 10))
+    >>> cost_widths(12, (T,), (2,), 1, 5)
+    (1, 1, 5, 5, 9, 9)
+"""
+
+TEXTS = """
+    >>> from blindpush.texts import plan_text, tool_text
+    >>> T = ((0, 2), (5, 6), (9, 10))
+    >>> [tool_text(T), plan_text(((0, 0), (-3, 1))), plan_text(())]
+    ['0>2 5>6 9>10', '0:0 -3:1', 'none']
+
+    >>> from blindpush.texts import parse_tool
+    >>> parse_tool(12, '0>2 5>2')
+    raises BadText(1)
+
+    >>> from blindpush.texts import parse_plan
+    >>> parse_plan('0:0 -3:1')
+    ((0, 0), (-3, 1))
+"""
+
 
 class Examples(unittest.TestCase):
-    def check(self, text, module, names):
-        self.assertEqual(names_used(text), {(module, name) for name in names})
+    def check(self, text, module, names, beside=()):
+        """The sessions show what they should, and import these names of the module and those beside them."""
+        self.assertEqual(names_used(text), {(module, name) for name in names} | set(beside))
         for lines, result in sessions_of(text):
             with self.subTest(line=lines[-1]):
                 self.assertEqual(result_of(lines), result)
@@ -71,6 +177,20 @@ class Examples(unittest.TestCase):
 
     def test_section_2(self):
         self.check(ARCS, "arcs", ("spread_of", "brought_into", "width_of", "lengths_of"))
+
+    def test_section_3(self):
+        names = ("fewest_pushes", "find_plan", "plan_holds", "fewest_holds", "find_certificate", "certificate_holds")
+        self.check(PLANS, "plans", names, beside=[("tools", "after_plan")])
+
+    def test_section_4(self):
+        names = ("period_of", "common_period", "turned_tool", "mirrored_tool", "table_of", "tool_of")
+        self.check(MAPS, "maps", names + ("combined", "plan_tool"))
+
+    def test_section_5_costs(self):
+        self.check(COSTS, "costs", ("least_cost", "find_cheap_plan", "cost_widths"))
+
+    def test_section_7_texts(self):
+        self.check(TEXTS, "texts", ("tool_text", "plan_text", "parse_tool", "parse_plan"))
 
 
 if __name__ == "__main__":

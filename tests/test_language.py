@@ -1,4 +1,4 @@
-"""The rules of LANGUAGE.md that can be seen in one file at a time."""
+"""The rules of LANGUAGE.md that can be seen in the files of the package."""
 
 import ast
 import re
@@ -17,6 +17,13 @@ PYTHON_NAMES = set(dir(__builtins__) if not isinstance(__builtins__, dict) else 
 BARRED_WORDS = set(
     "type typing typing_extensions enum Enum IntEnum StrEnum Flag IntFlag Generic Protocol ABC ABCMeta"
     " namedtuple NamedTuple TypedDict TYPE_CHECKING abstractmethod".split()
+)
+METHODS = set(
+    "append clear copy count endswith extend find get index insert isalnum isalpha isdigit islower isspace isupper"
+    " items join keys ljust lower lstrip partition pop remove replace reverse rfind rjust rpartition rsplit rstrip"
+    " setdefault split splitlines startswith strip update upper values zfill bit_length title capitalize swapcase"
+    " casefold center expandtabs removeprefix removesuffix rindex isascii isdecimal isnumeric istitle isidentifier"
+    " isprintable translate sort add discard".split()
 )
 BARRED_PARTS = ("dataclass", "overload", "contextmanager")
 BARRED_NAMES = set(
@@ -86,6 +93,42 @@ class Language(unittest.TestCase):
                 self.assertEqual(node.level, 0, name)
                 self.assertTrue(node.module.startswith("blindpush."), (name, node.module))
                 self.assertNotIn("*", [alias.name for alias in node.names], name)
+
+    def test_imports_name_the_file_that_defines_the_name(self):
+        tops = {name: self.defined_at_top(tree) for name, tree in trees()}
+        for name, node in nodes_of(ast.ImportFrom):
+            for alias in node.names:
+                self.assertIn(alias.name, tops[node.module.removeprefix("blindpush.") + ".py"], name)
+
+    def defined_at_top(self, tree):
+        nodes = [node for node in tree.body if not isinstance(node, ast.ImportFrom)]
+        return [bound for node in nodes for bound in self.bound_at_top(node)]
+
+    def test_no_two_files_import_from_each_other(self):
+        waiting = {name: set() for name, tree in trees()}
+        for name, node in nodes_of(ast.ImportFrom):
+            waiting[name].add(node.module.removeprefix("blindpush.") + ".py")
+        while waiting:
+            free = [name for name in waiting if not waiting[name] & set(waiting)]
+            self.assertTrue(free, waiting)
+            for name in free:
+                del waiting[name]
+
+    def test_local_names_are_not_those_of_imports_and_classes(self):
+        for name, tree in trees():
+            taken = {
+                bound for node in tree.body if isinstance(node, (ast.ImportFrom, ast.ClassDef))
+                for bound in self.bound_at_top(node)
+            }
+            for node in ast.walk(tree):
+                if isinstance(node, (ast.Name, ast.arg)):
+                    self.assertFalse(taken & set(names_bound(node)), name)
+
+    def test_methods_of_builtin_values(self):
+        own = {node.name for name, node in nodes_of(ast.FunctionDef)}
+        for name, node in nodes_of(ast.Call):
+            if isinstance(node.func, ast.Attribute) and node.func.attr not in own:
+                self.assertIn(node.func.attr, METHODS, (name, node.lineno))
 
     def test_module_level(self):
         for name, tree in trees():

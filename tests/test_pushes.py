@@ -5,9 +5,8 @@ import unittest
 
 from blindpush.errors import BadPlan
 from blindpush.tools import after_plan, push_place, push_places
-from tests.circles import ANY_VALUES, LARGE, P, T, place_sets, sent_to, some_tools
+from tests.circles import ANY_VALUES, LARGE, LONG, P, T, place_sets, sent_to, some_tools
 
-LONG = 10 ** 30 - 1
 TURNS = (0, 1, -1, 5, 11, 12, -12, 13, 36, -37, 1000, LONG, -LONG, 10 ** 29, -(10 ** 29) - 7)
 CIRCLES = ((1, ((0, 0),)), (2, ((0, 1), (1, 0))), (6, ((2, 5), (4, 1))), (12, T), (12, P), (60, LARGE))
 ALL = tuple(range(12))
