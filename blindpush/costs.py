@@ -41,7 +41,8 @@ def cheapest_ways(m, tools, costs, goal):
 
 def keep_cheaper(ways, length, way):
     """Put the way of the length into the ways, unless one that costs no more is there."""
-    if length not in ways or way[0] < ways[length][0]:
+    # A way that goes on with its own length would never come to the goal.
+    if way[2] < length and (length not in ways or way[0] < ways[length][0]):
         ways[length] = way
 
 

@@ -109,6 +109,13 @@ class LeastCosts(CostCase):
         for m in (2, 12, 13):
             self.check_plan(m, (merging_tool(m),), (100,), tuple(range(m)), 1, 100 * (m - 1))
 
+    def test_costs_beyond_the_limits(self):
+        # The document says nothing of what such costs lead to, only that they raise no error.
+        for costs in ((0, 101), (101, 0), (0, 0), (-1, 2), (2, -1)):
+            plan = find_cheap_plan(12, (T, P), costs, ALL, 1)
+            self.assertTrue(plan_holds(12, (T, P), ALL, 1, plan))
+            self.assertEqual(len(cost_widths(12, (T, P), costs, 1, 1001)), 1002)
+
     def test_sixty_places(self):
         tools = (LARGE, THIRDS, HALVES)
         for costs in ((1, 1, 1), (100, 1, 2), (50, 20, 33)):
