@@ -1,6 +1,6 @@
-"""Tools and plans as texts."""
+"""Tools, plans, places and circles as texts."""
 
-from blindpush.bounds import MAX_ARCS, MAX_PLAN, MAX_TOOLS
+from blindpush.bounds import MAX_ARCS, MAX_PLACES, MAX_PLAN, MAX_TOOLS
 from blindpush.checks import is_number_within, is_turn
 from blindpush.errors import BadText
 from blindpush.tools import item_error
@@ -14,6 +14,11 @@ def tool_text(tool):
 def plan_text(plan):
     """Return the text of a plan."""
     return pairs_text(plan, ":") if plan else "none"
+
+
+def places_text(places):
+    """Return the text of places."""
+    return " ".join([str(place) for place in places])
 
 
 def pairs_text(pairs, sign):
@@ -44,6 +49,27 @@ def parse_plan(text):
 def is_push_of_some_tools(pair):
     """Return whether the pair, or None, is a push with as many tools as there can be."""
     return pair is not None and is_turn(pair[0]) and is_number_within(pair[1], 0, MAX_TOOLS - 1)
+
+
+def parse_circle(text):
+    """Return the number of places and the tools whose text any value is; raise BadText if there are none."""
+    if not isinstance(text, str):
+        raise BadText(None)
+    head, colon, rest = text.partition(": ")
+    m = read_number(head)
+    if colon == "" or not is_number_within(m, 1, MAX_PLACES):
+        raise BadText(0)
+    return (m, tuple([parse_part(m, index, part) for index, part in enumerate(rest.split(", "), start=1)]))
+
+
+def parse_part(m, index, part):
+    """Return the tool for m whose text the part at the index is; raise BadText with this index if there is none."""
+    if index > MAX_TOOLS:
+        raise BadText(index)
+    try:
+        return parse_tool(m, part)
+    except BadText:
+        raise BadText(index)
 
 
 def read_pairs(text, sign):

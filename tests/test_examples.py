@@ -1,4 +1,4 @@
-"""Every example of DOC.md that has landed, as it stands there."""
+"""Every example of DOC.md, as it stands there."""
 
 import unittest
 
@@ -147,6 +147,110 @@ COSTS = """
     (1, 1, 5, 5, 9, 9)
 """
 
+COUNTING = """
+    >>> from blindpush.counting import count_plans
+    >>> [count_plans(2, (((0, 1),),), 1), count_plans(2, (((0, 0), (1, 1)),), 3), count_plans(1, (((0, 0),),), 0)]
+    [2, 0, 1]
+
+    >>> from blindpush.counting import count_images
+    >>> count_images(4, (((0, 0), (2, 1)),), 1)
+    (0, 4, 0, 0)
+"""
+
+BENCHES = """
+    >>> from blindpush.benches import Bench
+    >>> T = ((0, 2), (5, 6), (9, 10))
+    >>> str(Bench(12, (T,)))
+    '12 places, 1 tools, 12 possible, 0 edits'
+
+    >>> from blindpush.benches import Bench
+    >>> T = ((0, 2), (5, 6), (9, 10))
+    >>> bench = Bench(12, (T,))
+    >>> [bench.push(0, 0), bench.learn(9, 4), bench.possible()]
+    [1, 2, (10,)]
+
+    >>> from blindpush.benches import Bench
+    >>> T = ((0, 2), (5, 6), (9, 10))
+    >>> bench = Bench(12, (T,))
+    >>> [bench.push(0, 0), bench.undo(), len(bench.possible())]
+    [1, 0, 12]
+
+    >>> from blindpush.benches import Bench
+    >>> T = ((0, 2), (5, 6), (9, 10))
+    >>> bench = Bench(12, (T,))
+    >>> bench.attempt([('push', 0, 0), ('learn', 3, 1)])
+    raises Rejected(1)
+
+    >>> from blindpush.benches import Bench
+    >>> T = ((0, 2), (5, 6), (9, 10))
+    >>> bench = Bench(12, (T,))
+    >>> [bench.push(0, 0), bench.possible(), bench.spread(), bench.spread(version=0)]
+    [1, (2, 6, 10), 9, 12]
+
+    >>> from blindpush.benches import Bench
+    >>> T = ((0, 2), (5, 6), (9, 10))
+    >>> bench = Bench(12, (T,))
+    >>> [bench.remaining(1), bench.push(0, 0), bench.remaining(1), bench.remaining(12)]
+    [3, 1, 2, 0]
+
+    >>> from blindpush.benches import Bench
+    >>> P = ((0, 1), (4, 5), (8, 9))
+    >>> Bench(12, (P,)).plan(3)
+    None
+
+    >>> from blindpush.benches import Bench
+    >>> T = ((0, 2), (5, 6), (9, 10))
+    >>> bench = Bench(12, (T,))
+    >>> [bench.learn(3, 2), bench.edits()]
+    [1, (('learn', 3, 2),)]
+
+    >>> from blindpush.benches import Bench
+    >>> T = ((0, 2), (5, 6), (9, 10))
+    >>> one, other = Bench(12, (T,)), Bench(12, (T, T))
+    >>> [len(one), one == other]
+    [0, False]
+
+    >>> from blindpush.benches import Bench
+    >>> T = ((0, 2), (5, 6), (9, 10))
+    >>> bench = Bench(12, (T,))
+    >>> [bench.goal, bench.needed, bench.is_known, bench.aim_at(5), bench.goal]
+    [1, 3, False, 2, 5]
+
+    >>> from blindpush.benches import Bench
+    >>> [Bench.LIMIT, Bench.arc(12, 10, 4)]
+    [60, (0, 1, 10, 11)]
+
+    >>> from blindpush.benches import Bench
+    >>> bench = Bench.read('12: 0>2 5>6 9>10, 0>1')
+    >>> [str(bench), bench.push(0, 1), bench.possible()]
+    ['12 places, 2 tools, 12 possible, 0 edits', 1, (1,)]
+
+    >>> from blindpush.benches import Bench
+    >>> T = ((0, 2), (5, 6), (9, 10))
+    >>> bench = Bench(12, (T,))
+    >>> len(list(bench.walk(1)))
+    3
+"""
+
+BESIDE = """
+    >>> from blindpush.benches import Bench, common_places
+    >>> T = ((0, 2), (5, 6), (9, 10))
+    >>> one, other = Bench(12, (T,)), Bench(12, (T,))
+    >>> [one.push(0, 0), other.learn(0, 7), common_places(one, other), common_places(one, other, least=3), common_places()]
+    [1, 1, (2, 6), (6,), ()]
+
+    >>> from blindpush.purses import Purse
+    >>> purse = Purse(10)
+    >>> [purse.pay(4), purse.left, purse.give_back(1), purse.budget]
+    [6, 6, 7, 10]
+
+    >>> from blindpush.benches import CostBench
+    >>> T = ((0, 2), (5, 6), (9, 10))
+    >>> bench = CostBench(12, (T, T), (3, 5), 8)
+    >>> [bench.push(0, 1), bench.left, bench.push(0, 0), bench.left, bench.undo(), bench.left]
+    [1, 3, 2, 0, 1, 3]
+"""
+
 TEXTS = """
     >>> from blindpush.texts import plan_text, tool_text
     >>> T = ((0, 2), (5, 6), (9, 10))
@@ -160,6 +264,20 @@ TEXTS = """
     >>> from blindpush.texts import parse_plan
     >>> parse_plan('0:0 -3:1')
     ((0, 0), (-3, 1))
+"""
+
+SHELLS = """
+    >>> from blindpush.benches import Bench
+    >>> from blindpush.shells import Shell
+    >>> Shell(Bench(3, (((0, 1),),))).execute('possible')
+    '0 1 2'
+
+    >>> from blindpush.benches import Bench
+    >>> from blindpush.shells import Shell
+    >>> T = ((0, 2), (5, 6), (9, 10))
+    >>> shell = Shell(Bench(12, (T,)))
+    >>> [shell.execute('push 0 0'), shell.execute('remaining 1'), shell.execute('learn 3 1'), shell.execute('learn 0 5'), shell.execute('plan 1')]
+    ['ok 1', '2', 'error Impossible', 'ok 2', 'none']
 """
 
 
@@ -189,8 +307,24 @@ class Examples(unittest.TestCase):
     def test_section_5_costs(self):
         self.check(COSTS, "costs", ("least_cost", "find_cheap_plan", "cost_widths"))
 
+    def test_section_5_counting(self):
+        self.check(COUNTING, "counting", ("count_plans", "count_images"))
+
+    def test_section_6(self):
+        self.check(BENCHES, "benches", ("Bench",))
+
+    def test_section_6_beside(self):
+        self.check(BESIDE, "benches", ("Bench", "CostBench", "common_places"), beside=[("purses", "Purse")])
+
     def test_section_7_texts(self):
         self.check(TEXTS, "texts", ("tool_text", "plan_text", "parse_tool", "parse_plan"))
+
+    def test_section_7_shells(self):
+        self.check(SHELLS, "shells", ("Shell",), beside=[("benches", "Bench")])
+
+    def test_how_many_there_are(self):
+        texts = (TOOLS, ARCS, PLANS, MAPS, COSTS, COUNTING, BENCHES, BESIDE, TEXTS, SHELLS)
+        self.assertEqual([len(sessions_of(text)) for text in texts], [6, 4, 6, 7, 3, 2, 13, 3, 3, 2])
 
 
 if __name__ == "__main__":

@@ -3,6 +3,7 @@
 import ast
 import re
 import unittest
+from functools import lru_cache
 from pathlib import Path
 
 PACKAGE = Path(__file__).resolve().parent.parent / "blindpush"
@@ -23,7 +24,7 @@ METHODS = set(
     " items join keys ljust lower lstrip partition pop remove replace reverse rfind rjust rpartition rsplit rstrip"
     " setdefault split splitlines startswith strip update upper values zfill bit_length title capitalize swapcase"
     " casefold center expandtabs removeprefix removesuffix rindex isascii isdecimal isnumeric istitle isidentifier"
-    " isprintable translate sort add discard".split()
+    " isprintable translate add discard".split()
 )
 BARRED_PARTS = ("dataclass", "overload", "contextmanager")
 BARRED_NAMES = set(
@@ -41,6 +42,7 @@ def files():
     return sorted(path for path in PACKAGE.rglob("*") if "__pycache__" not in path.parts)
 
 
+@lru_cache
 def trees():
     return [(path.name, ast.parse(path.read_text(encoding="utf-8"))) for path in files()]
 
